@@ -25,6 +25,27 @@ def step(service, old, new, copies):
     return [4, service, old, new, copies]
 
 
+def plan():
+    return [5]
+
+
+def may():
+    return [6]
+
+
+def goal(service, wanted):
+    return [7, service, wanted]
+
+
+def now():
+    return [8]
+
+
+def all_moves(of):
+    """All moves of a service with three versions, the plan's last ones first."""
+    return [move(of, old, new) for old in (2, 1, 0) for new in (2, 1, 0) if old != new]
+
+
 def written(calls):
     return [number for call in calls for number in call]
 
@@ -39,10 +60,17 @@ def answered(*calls):
         if given[place] < 1 or end > len(given):
             raise AssertionError(f"a count that doesn't fit at {place}: {given}")
         read.append(given[place + 1:end])
+        if min(read[-1]) < 0 and len(read[-1]) > 1:
+            raise AssertionError(f"a refusal that isn't alone: {read[-1]}")
         place = end
     if len(read) != len(calls):
         raise AssertionError(f"{len(calls)} calls, {len(read)} answers: {given}")
     return read
+
+
+def told(*calls):
+    """All that the last call answers."""
+    return answered(*calls)[-1]
 
 
 def numbers(*calls):

@@ -1,13 +1,19 @@
 """The house: its services, their moves and clashes, and the calls on it."""
 
+from upgradeways.ways import Step, all_of_version, can_be_done, counts_behind, fewest_steps, is_there, may_be_done
+from upgradeways.ways import planned_steps, steps_from
+
 BEGINS = 0
 SERVICE = 1
 MOVE = 2
 CLASH = 3
 STEP = 4
+PLAN = 5
+MAY = 6
+GOAL = 7
 
 # By a call's number: how many whole numbers stand behind it.
-NUMBERS_BEHIND = {0: 0, 1: 4, 2: 3, 3: 4, 4: 4}
+NUMBERS_BEHIND = {0: 0, 1: 4, 2: 3, 3: 4, 4: 4, 5: 0, 6: 0, 7: 2, 8: 0}
 
 MOST_SERVICES = 3
 MOST_COPIES = 2
@@ -15,6 +21,7 @@ MOST_VERSIONS = 3
 MOST_CLASHES = 20
 
 DONE = 0
+NO_WAY_ON = 0
 
 OUT_OF_RANGE = -1
 NO_SUCH = -2
@@ -22,6 +29,7 @@ CANNOT_BE_DONE = -2
 NOT_NEW = -4
 BOTH_THERE = -5
 MAY_NOT_BE_DONE = -5
+NO_WAY = -6
 FULL = -7
 
 
@@ -42,8 +50,8 @@ class House:
     def begin(self):
         self.services = []
         self.clashes = []
-        # One row for each service, apart from the services, so that a step is judged by what is there on both sides.
-        self.counts = []
+        # Apart from the services, so that a step is judged by what is there on both sides.
+        self.counts = ()
         return DONE
 
     def add_service(self, copies, up, versions, wanted):
@@ -52,7 +60,7 @@ class House:
         if len(self.services) == MOST_SERVICES:
             return FULL
         self.services.append(Service(copies, up, versions, wanted))
-        self.counts.append([copies] + [0] * (versions - 1))
+        self.counts = self.counts + (all_of_version(versions, 0, copies),)
         return len(self.services) - 1
 
     def has_version(self, service, version):
@@ -85,31 +93,44 @@ class House:
         return (one, another) in self.clashes or (another, one) in self.clashes
 
     def take_step(self, service, old, new, copies):
-        if not self.can_be_done(service, old, new, copies):
+        step = Step(service, old, new, copies)
+        if not can_be_done(self.services, self.counts, step):
             return CANNOT_BE_DONE
-        behind = counts_behind(self.counts, service, old, new, copies)
-        if self.has_clash_between(self.counts, behind):
+        if not may_be_done(self.services, self.clashes, self.counts, step):
             return MAY_NOT_BE_DONE
-        self.counts = behind
+        self.counts = counts_behind(self.counts, step)
         return DONE
 
-    def can_be_done(self, service, old, new, copies):
-        if service >= len(self.services) or copies == 0:
-            return False
-        stepping = self.services[service]
-        # A move names versions that are there, so the count is looked up only behind this.
-        if (old, new) not in stepping.moves:
-            return False
-        return copies <= self.counts[service][old] and stepping.up + copies <= stepping.copies
+    def tell_plan(self):
+        steps = planned_steps(self.services, self.clashes, self.counts)
+        if steps is None:
+            return [NO_WAY]
+        told = [len(steps)]
+        for step in steps:
+            told.extend(step_numbers(step))
+        return told
 
-    def has_clash_between(self, before, behind):
-        for clash in self.clashes:
-            # Old and new copies are side by side during a step: one side may be there before it, the other one behind.
-            first = is_there(before, clash[0]) or is_there(behind, clash[0])
-            other = is_there(before, clash[1]) or is_there(behind, clash[1])
-            if first and other:
-                return True
-        return False
+    def tell_may(self):
+        steps = steps_from(self.services, self.clashes, self.counts)
+        fewest = fewest_steps(self.services, self.clashes, self.counts)
+        told = [len(steps)]
+        for step in steps:
+            behind = counts_behind(self.counts, step)
+            told.extend(step_numbers(step))
+            told.append(fewest[behind] + 1 if behind in fewest else NO_WAY_ON)
+        return told
+
+    def set_goal(self, service, wanted):
+        if not self.has_version(service, wanted):
+            return NO_SUCH
+        self.services[service].wanted = wanted
+        return DONE
+
+    def tell_now(self):
+        told = [len(self.services)]
+        for row in self.counts:
+            told.extend(row)
+        return told
 
 
 def are_in_range(copies, up, versions, wanted):
@@ -118,15 +139,8 @@ def are_in_range(copies, up, versions, wanted):
     return copies_fit and versions_fit
 
 
-def is_there(counts, side):
-    return counts[side[0]][side[1]] > 0
-
-
-def counts_behind(counts, service, old, new, copies):
-    behind = [list(row) for row in counts]
-    behind[service][old] -= copies
-    behind[service][new] += copies
-    return behind
+def step_numbers(step):
+    return [step.service, step.old, step.new, step.copies]
 
 
 def answer(house, call, given):
@@ -138,7 +152,15 @@ def answer(house, call, given):
         return [house.add_move(given[0], given[1], given[2])]
     if call == CLASH:
         return [house.add_clash(given[0], given[1], given[2], given[3])]
-    return [house.take_step(given[0], given[1], given[2], given[3])]
+    if call == STEP:
+        return [house.take_step(given[0], given[1], given[2], given[3])]
+    if call == PLAN:
+        return house.tell_plan()
+    if call == MAY:
+        return house.tell_may()
+    if call == GOAL:
+        return [house.set_goal(given[0], given[1])]
+    return house.tell_now()
 
 
 def answers(calls):
